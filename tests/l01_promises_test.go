@@ -1,7 +1,6 @@
 package tests
 
 import (
-	"fmt"
 	"math"
 	"slices"
 	"strings"
@@ -22,75 +21,6 @@ func TestExamplesOfChapter1(t *testing.T) {
 	code, ok = impl.EightOf(impl.EightFine, 1.5)
 	wantOk(t, "the code of 1.5 with EightFine", code, ok, 60)
 }
-
-// textOfResult shows results with the bits of their numbers, so that two are
-// equal just if their texts are.
-func textOfResult(results ...any) string {
-	var text strings.Builder
-	for _, result := range results {
-		switch value := result.(type) {
-		case float32:
-			fmt.Fprintf(&text, "%08x;", impl.BitsOf(value))
-		case []float32:
-			fmt.Fprintf(&text, "%08x;", bitsOfList(value))
-		default:
-			fmt.Fprintf(&text, "%v;", value)
-		}
-	}
-	return text.String()
-}
-
-// isZeroResult reports whether a result is a zero value.
-func isZeroResult(result any) bool {
-	switch value := result.(type) {
-	case float32:
-		return math.Float32bits(value) == 0
-	case int64:
-		return value == 0
-	case string:
-		return value == ""
-	case []float32:
-		return len(value) == 0
-	case []int64:
-		return len(value) == 0
-	}
-	return false
-}
-
-// checkCall calls twice, and requires equal results, and a zero value if the
-// call fails. What a call returns first is spoilt before the second call.
-func checkCall[T any](t *testing.T, name string, call func() (T, bool)) {
-	t.Helper()
-	defer func() {
-		if reason := recover(); reason != nil {
-			t.Errorf("%s: panic: %v", name, reason)
-		}
-	}()
-	first, ok := call()
-	text := textOfResult(first, ok)
-	if !ok && !isZeroResult(first) {
-		t.Errorf("%s fails with %v", name, first)
-	}
-	spoil(first)
-	second, ok := call()
-	wantValue(t, name+" again", textOfResult(second, ok), text)
-}
-
-func spoil(result any) {
-	switch list := result.(type) {
-	case []float32:
-		for i := range list[:cap(list)] {
-			list[:cap(list)][i] = -77
-		}
-	case []int64:
-		for i := range list[:cap(list)] {
-			list[:cap(list)][i] = -77
-		}
-	}
-}
-
-// alone makes a function without a success one that succeeds.
-func alone[T any](value T) (T, bool) { return value, true }
 
 func anyIntegers() []int64 {
 	return []int64{
@@ -152,16 +82,6 @@ func TestEachFunctionReturnsTheSameForAllIntegersAndTexts(t *testing.T) {
 		checkCall(t, "ReadList", func() ([]int64, bool) { return impl.ReadList(s) })
 		checkCall(t, "IsName", func() (bool, bool) { return alone(impl.IsName(s)) })
 	}
-}
-
-// rawBits returns the bits of a list and of its unused capacity, also those
-// of not-a-numbers.
-func rawBits(list []float32) []uint32 {
-	var bits []uint32
-	for _, x := range list[:cap(list)] {
-		bits = append(bits, math.Float32bits(x))
-	}
-	return bits
 }
 
 func TestListsOfNumbersAreNotChanged(t *testing.T) {

@@ -100,13 +100,15 @@ func TestSumsOfTooManyNumbers(t *testing.T) {
 	}
 }
 
-func TestDots(t *testing.T) {
+type dotCase struct {
+	name       string
+	a, b       []float32
+	dot, wider float32
+}
+
+func dotCases() []dotCase {
 	third := of(0x3eaaaaab)
-	cases := []struct {
-		name       string
-		a, b       []float32
-		dot, wider float32
-	}{
+	return []dotCase{
 		{"none", nil, []float32{}, 0, 0},
 		{"two", []float32{1, 2}, []float32{3, 4}, 11, 11},
 		{"-0", []float32{minusZero}, []float32{1}, 0, 0},
@@ -121,7 +123,10 @@ func TestDots(t *testing.T) {
 		{"both infinities", []float32{infinity, 1}, []float32{1, -infinity}, nan, nan},
 		{"a not-a-number", []float32{1, of(0x7f800001)}, []float32{1, 0}, nan, nan},
 	}
-	for _, c := range cases {
+}
+
+func TestDots(t *testing.T) {
+	for _, c := range dotCases() {
 		got, ok := impl.DotNumbers(c.a, c.b)
 		wantNumberOk(t, "DotNumbers of "+c.name, got, ok, c.dot)
 		got, ok = impl.DotWide(c.a, c.b)

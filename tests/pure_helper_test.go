@@ -1,0 +1,101 @@
+package tests
+
+import (
+	"fmt"
+	"math"
+	"strings"
+	"testing"
+
+	"loop.example/g01157/impl"
+)
+
+// textOfResult shows results with the bits of their numbers, so that two are
+// equal just if their texts are.
+func textOfResult(results ...any) string {
+	var text strings.Builder
+	for _, result := range results {
+		switch value := result.(type) {
+		case float32:
+			fmt.Fprintf(&text, "%08x;", impl.BitsOf(value))
+		case []float32:
+			fmt.Fprintf(&text, "%08x;", bitsOfList(value))
+		case impl.Tensor:
+			fmt.Fprintf(&text, "%d*%d:%08x;", value.Rows, value.Columns, bitsOfList(value.Data))
+		default:
+			fmt.Fprintf(&text, "%v;", value)
+		}
+	}
+	return text.String()
+}
+
+// isZeroResult reports whether a result is a zero value.
+func isZeroResult(result any) bool {
+	switch value := result.(type) {
+	case float32:
+		return math.Float32bits(value) == 0
+	case float64:
+		return math.Float64bits(value) == 0
+	case int64:
+		return value == 0
+	case string:
+		return value == ""
+	case []float32:
+		return len(value) == 0
+	case []int64:
+		return len(value) == 0
+	case impl.Tensor:
+		return value.Rows == 0 && value.Columns == 0 && len(value.Data) == 0
+	}
+	return false
+}
+
+// checkCall calls twice, and requires equal results, and a zero value if the
+// call fails. What a call returns first is spoilt before the second call and
+// behind it: the second result is another one if both share memory, or if the
+// first one shares it with an argument.
+func checkCall[T any](t *testing.T, name string, call func() (T, bool)) {
+	t.Helper()
+	defer func() {
+		if reason := recover(); reason != nil {
+			t.Errorf("%s: panic: %v", name, reason)
+		}
+	}()
+	first, ok := call()
+	text := textOfResult(first, ok)
+	if !ok && !isZeroResult(first) {
+		t.Errorf("%s fails with %v", name, first)
+	}
+	spoil(first)
+	second, ok := call()
+	wantValue(t, name+" again", textOfResult(second, ok), text)
+	spoil(first)
+	wantValue(t, name+" behind a change of the first result", textOfResult(second, ok), text)
+}
+
+func spoil(result any) {
+	switch list := result.(type) {
+	case []float32:
+		for i := range list[:cap(list)] {
+			list[:cap(list)][i] = -77
+		}
+	case []int64:
+		for i := range list[:cap(list)] {
+			list[:cap(list)][i] = -77
+		}
+	case impl.Tensor:
+		spoil(list.Data)
+	}
+}
+
+// alone makes a function without a success one that succeeds.
+func alone[T any](value T) (T, bool) { return value, true }
+
+// rawBits returns the bits of a list and of its unused capacity, also those
+// of not-a-numbers.
+func rawBits(list []float32) []uint32 {
+	var bits []uint32
+	for _, x := range list[:cap(list)] {
+		bits = append(bits, math.Float32bits(x))
+	}
+	return bits
+}
