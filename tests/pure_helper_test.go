@@ -21,6 +21,18 @@ func textOfResult(results ...any) string {
 			fmt.Fprintf(&text, "%08x;", bitsOfList(value))
 		case impl.Tensor:
 			fmt.Fprintf(&text, "%d*%d:%08x;", value.Rows, value.Columns, bitsOfList(value.Data))
+		case [][]float32:
+			fmt.Fprintf(&text, "%d lists:", len(value))
+			for _, list := range value {
+				text.WriteString(textOfResult(list))
+			}
+		case impl.Layer:
+			fmt.Fprintf(&text, "%d %d>%d:%s", value.Kind, value.In, value.Out, textOfResult(value.Weights, value.Bias))
+		case impl.Model:
+			fmt.Fprintf(&text, "%d layers:", len(value.Layers))
+			for _, layer := range value.Layers {
+				text.WriteString(textOfResult(layer))
+			}
 		default:
 			fmt.Fprintf(&text, "%v;", value)
 		}
@@ -45,6 +57,10 @@ func isZeroResult(result any) bool {
 		return len(value) == 0
 	case impl.Tensor:
 		return value.Rows == 0 && value.Columns == 0 && len(value.Data) == 0
+	case [][]float32:
+		return len(value) == 0
+	case impl.Model:
+		return len(value.Layers) == 0
 	}
 	return false
 }
@@ -84,6 +100,34 @@ func spoil(result any) {
 		}
 	case impl.Tensor:
 		spoil(list.Data)
+	case [][]float32:
+		for _, part := range list[:cap(list)] {
+			spoil(part)
+		}
+		clear(list[:cap(list)])
+	case impl.Model:
+		for _, layer := range list.Layers[:cap(list.Layers)] {
+			spoil(layer.Weights)
+			spoil(layer.Bias)
+		}
+		clear(list.Layers[:cap(list.Layers)])
+	}
+}
+
+// wantApart requires that no two of the slices of a result share memory: when
+// one is spoilt, with its unused capacity, the others stay as they are.
+func wantApart(t *testing.T, what string, parts [][]float32) {
+	t.Helper()
+	for i, part := range parts {
+		var others [][]float32
+		for k, other := range parts {
+			if k != i {
+				others = append(others, other)
+			}
+		}
+		before := textOfResult(others)
+		spoil(part)
+		wantValue(t, what+" apart", textOfResult(others), before)
 	}
 }
 
