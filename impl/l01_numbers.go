@@ -102,11 +102,16 @@ func SumNumbers(list []float32) (float32, bool) {
 	if len(list) > MaxNumbers {
 		return 0, false
 	}
-	var sum float32
+	return sumInOrder(list), true
+}
+
+// sumInOrder begins with +0 and adds all numbers, from left to right.
+func sumInOrder[T floating](list []T) T {
+	var sum T
 	for _, x := range list {
 		sum += x
 	}
-	return sum, true
+	return sum
 }
 
 // SumPairs returns the sum of the sums of both halves.
@@ -149,7 +154,7 @@ type floating interface{ float32 | float64 }
 // dotIn adds the products of two lists of the same length, from left to
 // right, in numbers of the type T. The conversion of each product has it
 // rounded on its own: without it, a processor may fuse it with the addition.
-func dotIn[T floating](a, b []float32) T {
+func dotIn[T, S floating](a, b []S) T {
 	var sum T
 	for i, x := range a {
 		sum += T(T(x) * T(b[i]))

@@ -3,6 +3,7 @@ package tests
 import (
 	"fmt"
 	"math"
+	"slices"
 	"strings"
 	"testing"
 
@@ -33,6 +34,20 @@ func textOfResult(results ...any) string {
 			for _, layer := range value.Layers {
 				text.WriteString(textOfResult(layer))
 			}
+		case []impl.Tensor:
+			fmt.Fprintf(&text, "%d tensors:", len(value))
+			for _, tensor := range value {
+				text.WriteString(textOfResult(tensor))
+			}
+		case impl.Op:
+			fmt.Fprintf(&text, "%d of %d and %d:%s", value.Kind, value.A, value.B, textOfResult(value.Number, value.Value))
+		case []impl.Op:
+			fmt.Fprintf(&text, "%d operations:", len(value))
+			for _, op := range value {
+				text.WriteString(textOfResult(op))
+			}
+		case several:
+			text.WriteString(textOfResult(value...))
 		default:
 			fmt.Fprintf(&text, "%v;", value)
 		}
@@ -61,9 +76,25 @@ func isZeroResult(result any) bool {
 		return len(value) == 0
 	case impl.Model:
 		return len(value.Layers) == 0
+	case bool:
+		return !value
+	case []float64:
+		return len(value) == 0
+	case [][]int64:
+		return len(value) == 0
+	case []impl.Tensor:
+		return len(value) == 0
+	case []impl.Op:
+		return len(value) == 0
+	case several:
+		return !slices.ContainsFunc(value, func(part any) bool { return !isZeroResult(part) })
 	}
 	return false
 }
+
+// several is what a function with several results besides its success
+// returns.
+type several []any
 
 // checkCall calls twice, and requires equal results, and a zero value if the
 // call fails. What a call returns first is spoilt before the second call and
@@ -111,15 +142,38 @@ func spoil(result any) {
 			spoil(layer.Bias)
 		}
 		clear(list.Layers[:cap(list.Layers)])
+	case []float64:
+		for i := range list[:cap(list)] {
+			list[:cap(list)][i] = -77
+		}
+	case [][]int64:
+		for _, part := range list[:cap(list)] {
+			spoil(part)
+		}
+		clear(list[:cap(list)])
+	case []impl.Tensor:
+		for _, part := range list[:cap(list)] {
+			spoil(part)
+		}
+		clear(list[:cap(list)])
+	case []impl.Op:
+		for _, op := range list[:cap(list)] {
+			spoil(op.Value)
+		}
+		clear(list[:cap(list)])
+	case several:
+		for _, part := range list {
+			spoil(part)
+		}
 	}
 }
 
 // wantApart requires that no two of the slices of a result share memory: when
 // one is spoilt, with its unused capacity, the others stay as they are.
-func wantApart(t *testing.T, what string, parts [][]float32) {
+func wantApart[T any](t *testing.T, what string, parts [][]T) {
 	t.Helper()
 	for i, part := range parts {
-		var others [][]float32
+		var others [][]T
 		for k, other := range parts {
 			if k != i {
 				others = append(others, other)
