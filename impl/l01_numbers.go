@@ -74,6 +74,9 @@ func WideBitsOf(x float64) int64 {
 	return int64(math.Float64bits(x))
 }
 
+// absolute returns x without its sign.
+func absolute(x float32) float32 { return wordOf(x).withoutSign().number() }
+
 // NarrowNumber returns the nearest 32-bit number, with ties to even.
 func NarrowNumber(x float64) float32 { return float32(x) }
 
@@ -270,7 +273,7 @@ func EightOf(kind int64, x float32) (int64, bool) {
 	if w.isNan() {
 		return eightNan, true
 	}
-	rest := format.nearestRest(float64(w.withoutSign().number()))
+	rest := format.nearestRest(float64(absolute(x)))
 	if w.hasSign() {
 		return rest + eightSign, true
 	}
