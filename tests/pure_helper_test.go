@@ -76,6 +76,8 @@ func isZeroResult(result any) bool {
 		return len(value) == 0
 	case impl.Model:
 		return len(value.Layers) == 0
+	case impl.LossScale:
+		return math.Float32bits(value.Scale) == 0 && value == impl.LossScale{}
 	case bool:
 		return !value
 	case []float64:
