@@ -34,6 +34,10 @@ func textOfResult(results ...any) string {
 			for _, layer := range value.Layers {
 				text.WriteString(textOfResult(layer))
 			}
+		case impl.Examples:
+			text.WriteString(textOfResult(value.Inputs, value.Targets))
+		case impl.TrainState:
+			fmt.Fprintf(&text, "behind %d with %d:%s", value.Steps, value.Seed, textOfResult(value.Scale, value.Model, value.Slots))
 		case []impl.Tensor:
 			fmt.Fprintf(&text, "%d tensors:", len(value))
 			for _, tensor := range value {
@@ -78,6 +82,10 @@ func isZeroResult(result any) bool {
 		return len(value.Layers) == 0
 	case impl.LossScale:
 		return math.Float32bits(value.Scale) == 0 && value == impl.LossScale{}
+	case impl.Examples:
+		return isZeroResult(several{value.Inputs, value.Targets})
+	case impl.TrainState:
+		return isZeroResult(several{value.Model, value.Slots, value.Steps, value.Seed, value.Scale})
 	case bool:
 		return !value
 	case []float64:
@@ -144,6 +152,12 @@ func spoil(result any) {
 			spoil(layer.Bias)
 		}
 		clear(list.Layers[:cap(list.Layers)])
+	case impl.Examples:
+		spoil(list.Inputs)
+		spoil(list.Targets)
+	case impl.TrainState:
+		spoil(list.Model)
+		spoil(list.Slots)
 	case []float64:
 		for i := range list[:cap(list)] {
 			list[:cap(list)][i] = -77
