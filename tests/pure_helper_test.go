@@ -50,6 +50,8 @@ func textOfResult(results ...any) string {
 			for _, op := range value {
 				text.WriteString(textOfResult(op))
 			}
+		case []string:
+			fmt.Fprintf(&text, "%q;", value)
 		case several:
 			text.WriteString(textOfResult(value...))
 		default:
@@ -95,6 +97,8 @@ func isZeroResult(result any) bool {
 	case []impl.Tensor:
 		return len(value) == 0
 	case []impl.Op:
+		return len(value) == 0
+	case []string:
 		return len(value) == 0
 	case several:
 		return !slices.ContainsFunc(value, func(part any) bool { return !isZeroResult(part) })
@@ -176,6 +180,8 @@ func spoil(result any) {
 		for _, op := range list[:cap(list)] {
 			spoil(op.Value)
 		}
+		clear(list[:cap(list)])
+	case []string:
 		clear(list[:cap(list)])
 	case several:
 		for _, part := range list {
