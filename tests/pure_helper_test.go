@@ -34,6 +34,13 @@ func textOfResult(results ...any) string {
 			for _, layer := range value.Layers {
 				text.WriteString(textOfResult(layer))
 			}
+		case impl.PlanStep:
+			fmt.Fprintf(&text, "%d %d>%d %t:%s", value.Kind, value.In, value.Out, value.Relu, textOfResult(value.Weights, value.Bias, value.Scales))
+		case impl.Plan:
+			fmt.Fprintf(&text, "%d steps:", len(value.Steps))
+			for _, step := range value.Steps {
+				text.WriteString(textOfResult(step))
+			}
 		case impl.Examples:
 			text.WriteString(textOfResult(value.Inputs, value.Targets))
 		case impl.TrainState:
@@ -80,8 +87,12 @@ func isZeroResult(result any) bool {
 		return value.Rows == 0 && value.Columns == 0 && len(value.Data) == 0
 	case [][]float32:
 		return len(value) == 0
+	case impl.Layer:
+		return isZeroResult(several{value.Kind, value.In, value.Out, value.Weights, value.Bias})
 	case impl.Model:
 		return len(value.Layers) == 0
+	case impl.Plan:
+		return len(value.Steps) == 0
 	case impl.LossScale:
 		return math.Float32bits(value.Scale) == 0 && value == impl.LossScale{}
 	case impl.Examples:
@@ -150,12 +161,21 @@ func spoil(result any) {
 			spoil(part)
 		}
 		clear(list[:cap(list)])
+	case impl.Layer:
+		spoil(list.Weights)
+		spoil(list.Bias)
 	case impl.Model:
 		for _, layer := range list.Layers[:cap(list.Layers)] {
-			spoil(layer.Weights)
-			spoil(layer.Bias)
+			spoil(layer)
 		}
 		clear(list.Layers[:cap(list.Layers)])
+	case impl.Plan:
+		for _, step := range list.Steps[:cap(list.Steps)] {
+			spoil(step.Weights)
+			spoil(step.Bias)
+			spoil(step.Scales)
+		}
+		clear(list.Steps[:cap(list.Steps)])
 	case impl.Examples:
 		spoil(list.Inputs)
 		spoil(list.Targets)
