@@ -59,6 +59,15 @@ func textOfResult(results ...any) string {
 			}
 		case []string:
 			fmt.Fprintf(&text, "%q;", value)
+		case impl.Request:
+			fmt.Fprintf(&text, "at %d:%s", value.At, textOfResult(value.Row))
+		case impl.Answer:
+			fmt.Fprintf(&text, "at %d in %d:%s", value.At, value.Batch, textOfResult(value.Row))
+		case []impl.Answer:
+			fmt.Fprintf(&text, "%d answers:", len(value))
+			for _, answer := range value {
+				text.WriteString(textOfResult(answer))
+			}
 		case several:
 			text.WriteString(textOfResult(value...))
 		default:
@@ -110,6 +119,8 @@ func isZeroResult(result any) bool {
 	case []impl.Op:
 		return len(value) == 0
 	case []string:
+		return len(value) == 0
+	case []impl.Answer:
 		return len(value) == 0
 	case several:
 		return !slices.ContainsFunc(value, func(part any) bool { return !isZeroResult(part) })
@@ -202,6 +213,11 @@ func spoil(result any) {
 		}
 		clear(list[:cap(list)])
 	case []string:
+		clear(list[:cap(list)])
+	case []impl.Answer:
+		for _, answer := range list[:cap(list)] {
+			spoil(answer.Row)
+		}
 		clear(list[:cap(list)])
 	case several:
 		for _, part := range list {
