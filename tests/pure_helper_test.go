@@ -45,6 +45,8 @@ func textOfResult(results ...any) string {
 			text.WriteString(textOfResult(value.Inputs, value.Targets))
 		case impl.TrainState:
 			fmt.Fprintf(&text, "behind %d with %d:%s", value.Steps, value.Seed, textOfResult(value.Scale, value.Model, value.Slots))
+		case impl.Lab:
+			fmt.Fprintf(&text, "lab of kind %d:%s", value.Optimizer.Kind, textOfResult(numbersOfOptimizer(value.Optimizer), value.Data, value.State))
 		case []impl.Tensor:
 			fmt.Fprintf(&text, "%d tensors:", len(value))
 			for _, tensor := range value {
@@ -108,6 +110,8 @@ func isZeroResult(result any) bool {
 		return isZeroResult(several{value.Inputs, value.Targets})
 	case impl.TrainState:
 		return isZeroResult(several{value.Model, value.Slots, value.Steps, value.Seed, value.Scale})
+	case impl.Lab:
+		return value.Optimizer.Kind == 0 && textOfResult(numbersOfOptimizer(value.Optimizer)) == textOfResult(filled(4, 0)) && isZeroResult(several{value.Data, value.State})
 	case bool:
 		return !value
 	case []float64:
@@ -193,6 +197,9 @@ func spoil(result any) {
 	case impl.TrainState:
 		spoil(list.Model)
 		spoil(list.Slots)
+	case impl.Lab:
+		spoil(list.Data)
+		spoil(list.State)
 	case []float64:
 		for i := range list[:cap(list)] {
 			list[:cap(list)][i] = -77
